@@ -1,0 +1,43 @@
+// Package way has points of the plane, as ways from the origin: what api.P tells as texts.
+package way
+
+import (
+	"compass/api"
+	"compass/num"
+)
+
+// Way goes X to the right and Y up. Its zero value is the origin.
+type Way struct{ X, Y num.Q }
+
+// Read is what the texts of a point tell.
+func Read(p api.P) Way { return Way{num.Read(p.X), num.Read(p.Y)} }
+
+// Text is the point as it is answered.
+func (w Way) Text() api.P { return api.P{X: w.X.Text(), Y: w.Y.Text()} }
+
+// Plus goes w, then v.
+func (w Way) Plus(v Way) Way { return Way{w.X.Plus(v.X), w.Y.Plus(v.Y)} }
+
+// Minus is the way from v to w.
+func (w Way) Minus(v Way) Way { return Way{w.X.Minus(v.X), w.Y.Minus(v.Y)} }
+
+// Times goes w k times.
+func (w Way) Times(k num.Q) Way { return Way{w.X.Times(k), w.Y.Times(k)} }
+
+// Dot is X times X and Y times Y: of w and w its length, squared.
+func (w Way) Dot(v Way) num.Q { return num.Sum(w.X.Times(v.X), w.Y.Times(v.Y)) }
+
+// Cross is X times Y less Y times X: above 0, if v goes to the left of w.
+func (w Way) Cross(v Way) num.Q { return w.X.Times(v.Y).Minus(w.Y.Times(v.X)) }
+
+// Nowhere tells if the way has no length.
+func (w Way) Nowhere() bool { return w.X.Sign() == 0 && w.Y.Sign() == 0 }
+
+// Sum goes all ways, one after the other.
+func Sum(l ...Way) Way {
+	var sum Way
+	for _, w := range l {
+		sum = sum.Plus(w)
+	}
+	return sum
+}
