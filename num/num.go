@@ -41,6 +41,15 @@ func over(a, b nat) nat {
 	return quotient
 }
 
+// Int is a machine number as a fraction.
+func Int(n int) Q {
+	if n < 0 {
+		// The lowest number has no opposite among machine numbers: as an unsigned one it has.
+		return ready(true, natOf(-uint64(n)), one())
+	}
+	return ready(false, natOf(uint64(n)), one())
+}
+
 // Sign is -1, 0 or 1.
 func (a Q) Sign() int {
 	switch {

@@ -55,8 +55,7 @@ func Mean(l []api.P, w []api.Q) (api.P, api.Errno) {
 	if total.Sign() == 0 {
 		return api.P{}, api.ErrNone
 	}
-	sum := way.Sum(weighed...)
-	return api.P{X: sum.X.Over(total).Text(), Y: sum.Y.Over(total).Text()}, api.OK
+	return way.Sum(weighed...).Over(total).Text(), api.OK
 }
 
 // between is the way from p to q.

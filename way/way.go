@@ -24,6 +24,12 @@ func (w Way) Minus(v Way) Way { return Way{w.X.Minus(v.X), w.Y.Minus(v.Y)} }
 // Times goes w k times.
 func (w Way) Times(k num.Q) Way { return Way{w.X.Times(k), w.Y.Times(k)} }
 
+// Over goes w once in k times: nowhere, if k is 0.
+func (w Way) Over(k num.Q) Way { return Way{w.X.Over(k), w.Y.Over(k)} }
+
+// Left is w turned by a right angle against the clock.
+func (w Way) Left() Way { return Way{w.Y.Negative(), w.X} }
+
 // Dot is X times X and Y times Y: of w and w its length, squared.
 func (w Way) Dot(v Way) num.Q { return num.Sum(w.X.Times(v.X), w.Y.Times(v.Y)) }
 

@@ -19,6 +19,10 @@ func TestWays(t *testing.T) {
 		{"plus", a.Plus(b), api.P{X: "9/2", Y: "-8/3"}},
 		{"minus", a.Minus(b), api.P{X: "-7/2", Y: "-10/3"}},
 		{"times", a.Times(num.Read("-2/3")), api.P{X: "-1/3", Y: "2"}},
+		{"over", a.Over(num.Read("-3/2")), api.P{X: "-1/3", Y: "2"}},
+		{"over 0", a.Over(num.Q{}), api.P{X: "0", Y: "0"}},
+		{"left", a.Left(), api.P{X: "3", Y: "1/2"}},
+		{"left twice", a.Left().Left(), api.P{X: "-1/2", Y: "3"}},
 		{"sum", Sum(a, b, a), api.P{X: "5", Y: "-17/3"}},
 		{"sum of none", Sum(), api.P{X: "0", Y: "0"}},
 	} {
