@@ -36,6 +36,12 @@ func (w Way) Dot(v Way) num.Q { return num.Sum(w.X.Times(v.X), w.Y.Times(v.Y)) }
 // Cross is X times Y less Y times X: above 0, if v goes to the left of w.
 func (w Way) Cross(v Way) num.Q { return w.X.Times(v.Y).Minus(w.Y.Times(v.X)) }
 
+// Conjugate is w mirrored at the level line through the origin.
+func (w Way) Conjugate() Way { return Way{w.X, w.Y.Negative()} }
+
+// Product of both as complex numbers: it turns as far as both together.
+func (w Way) Product(v Way) Way { return Way{w.Dot(v.Conjugate()), w.Conjugate().Cross(v)} }
+
 // Nowhere tells if the way has no length.
 func (w Way) Nowhere() bool { return w.X.Sign() == 0 && w.Y.Sign() == 0 }
 

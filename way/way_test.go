@@ -23,6 +23,13 @@ func TestWays(t *testing.T) {
 		{"over 0", a.Over(num.Q{}), api.P{X: "0", Y: "0"}},
 		{"left", a.Left(), api.P{X: "3", Y: "1/2"}},
 		{"left twice", a.Left().Left(), api.P{X: "-1/2", Y: "3"}},
+		{"conjugate", a.Conjugate(), api.P{X: "1/2", Y: "3"}},
+		{"conjugate of a level way", wayOf("-2", "0").Conjugate(), api.P{X: "-2", Y: "0"}},
+		{"product", a.Product(b), api.P{X: "3", Y: "-71/6"}},
+		{"product, the other way", b.Product(a), api.P{X: "3", Y: "-71/6"}},
+		{"product with the way up", a.Product(wayOf("0", "1")), api.P{X: "3", Y: "1/2"}},
+		{"product with nowhere", a.Product(Way{}), api.P{X: "0", Y: "0"}},
+		{"product with its conjugate", a.Product(a.Conjugate()), api.P{X: "37/4", Y: "0"}},
 		{"sum", Sum(a, b, a), api.P{X: "5", Y: "-17/3"}},
 		{"sum of none", Sum(), api.P{X: "0", Y: "0"}},
 	} {
