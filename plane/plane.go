@@ -45,20 +45,19 @@ func Mean(l []api.P, w []api.Q) (api.P, api.Errno) {
 	if len(w) != len(l) {
 		return api.P{}, api.ErrCount
 	}
+	points := make([]way.Way, len(l))
 	weights := make([]num.Q, len(w))
-	weighed := make([]way.Way, len(l))
 	for i := range l {
-		weights[i] = num.Read(w[i])
-		weighed[i] = way.Read(l[i]).Times(weights[i])
+		points[i], weights[i] = way.Read(l[i]), num.Read(w[i])
 	}
-	total := num.Sum(weights...)
-	if total.Sign() == 0 {
-		return api.P{}, api.ErrNone
+	mean, e := way.Mean(points, weights)
+	if e != api.OK {
+		return api.P{}, e
 	}
-	return way.Sum(weighed...).Over(total).Text(), api.OK
+	return mean.Text(), api.OK
 }
 
 // between is the way from p to q.
 func between(p, q api.P) way.Way { return way.Read(q).Minus(way.Read(p)) }
 
-func turn(a, b, c api.P) num.Q { return between(a, b).Cross(between(a, c)) }
+func turn(a, b, c api.P) num.Q { return way.Turn(way.Read(a), way.Read(b), way.Read(c)) }

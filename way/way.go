@@ -53,3 +53,19 @@ func Sum(l ...Way) Way {
 	}
 	return sum
 }
+
+// Turn is by how much three points turn: above 0, if they go against the clock; 0, if they lie on one line.
+func Turn(a, b, c Way) num.Q { return b.Minus(a).Cross(c.Minus(a)) }
+
+// Mean of points, of which each has its weight; ErrNone, if the weights add up to 0.
+func Mean(l []Way, weights []num.Q) (Way, api.Errno) {
+	total := num.Sum(weights...)
+	if total.Sign() == 0 {
+		return Way{}, api.ErrNone
+	}
+	var sum Way
+	for i, w := range l {
+		sum = sum.Plus(w.Times(weights[i]))
+	}
+	return sum.Over(total), api.OK
+}

@@ -64,3 +64,41 @@ func TestNowhere(t *testing.T) {
 		}
 	}
 }
+
+func TestTurn(t *testing.T) {
+	a, b, c := wayOf("1/2", "1"), wayOf("3", "1"), wayOf("-7", "5/2")
+	for _, x := range []struct {
+		a, b, c Way
+		want    api.Q
+	}{
+		{a, b, c, "15/4"}, {b, c, a, "15/4"}, {a, c, b, "-15/4"}, {a, b, wayOf("99", "1"), "0"}, {a, a, c, "0"}, {a, c, a, "0"}, {Way{}, Way{}, Way{}, "0"},
+	} {
+		if got := Turn(x.a, x.b, x.c).Text(); got != x.want {
+			t.Errorf("turn: %s, want %s", got, x.want)
+		}
+	}
+}
+
+func TestMean(t *testing.T) {
+	l := []Way{wayOf("1/2", "1"), wayOf("3", "1"), wayOf("-7", "5/2")}
+	for _, c := range []struct {
+		what    string
+		weights [3]api.Q
+		want    api.P
+		e       api.Errno
+	}{
+		{"alike", [3]api.Q{"2", "2", "2"}, api.P{X: "-7/6", Y: "3/2"}, api.OK},
+		{"of fractions", [3]api.Q{"1/2", "-1/3", "1/6"}, api.P{X: "-23/4", Y: "7/4"}, api.OK},
+		{"one alone", [3]api.Q{"0", "-5", "0"}, api.P{X: "3", Y: "1"}, api.OK},
+		{"nothing together", [3]api.Q{"1/2", "1/2", "-1"}, api.P{X: "0", Y: "0"}, api.ErrNone},
+		{"nothing at all", [3]api.Q{}, api.P{X: "0", Y: "0"}, api.ErrNone},
+	} {
+		weights := []num.Q{num.Read(c.weights[0]), num.Read(c.weights[1]), num.Read(c.weights[2])}
+		if got, e := Mean(l, weights); got.Text() != c.want || e != c.e {
+			t.Errorf("mean %s: %v %d, want %v %d", c.what, got.Text(), e, c.want, c.e)
+		}
+	}
+	if got, e := Mean(nil, nil); !got.Nowhere() || e != api.ErrNone {
+		t.Errorf("mean of none: %v %d", got.Text(), e)
+	}
+}
