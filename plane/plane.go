@@ -50,11 +50,7 @@ func Mean(l []api.P, w []api.Q) (api.P, api.Errno) {
 	for i := range l {
 		points[i], weights[i] = way.Read(l[i]), num.Read(w[i])
 	}
-	mean, e := way.Mean(points, weights)
-	if e != api.OK {
-		return api.P{}, e
-	}
-	return mean.Text(), api.OK
+	return way.Answer(way.Mean(points, weights))
 }
 
 // between is the way from p to q.

@@ -15,6 +15,14 @@ func Read(p api.P) Way { return Way{num.Read(p.X), num.Read(p.Y)} }
 // Text is the point as it is answered.
 func (w Way) Text() api.P { return api.P{X: w.X.Text(), Y: w.Y.Text()} }
 
+// Answer is what was found as it is answered: nothing beside an error.
+func Answer(w Way, e api.Errno) (api.P, api.Errno) {
+	if e != api.OK {
+		return api.P{}, e
+	}
+	return w.Text(), api.OK
+}
+
 // Plus goes w, then v.
 func (w Way) Plus(v Way) Way { return Way{w.X.Plus(v.X), w.Y.Plus(v.Y)} }
 

@@ -39,6 +39,15 @@ func TestWays(t *testing.T) {
 	}
 }
 
+func TestAnswer(t *testing.T) {
+	if got, e := Answer(wayOf("02/4", "-3"), api.OK); got != (api.P{X: "1/2", Y: "-3"}) || e != api.OK {
+		t.Errorf("answer: %v %d", got, e)
+	}
+	if got, e := Answer(wayOf("1", "2"), api.ErrFree); got != (api.P{}) || e != api.ErrFree {
+		t.Errorf("with an error: %v %d", got, e)
+	}
+}
+
 func TestProducts(t *testing.T) {
 	a, b := wayOf("1/2", "-3"), wayOf("4", "1/3")
 	if got := a.Dot(b).Text(); got != "1" {
