@@ -29,6 +29,9 @@ func (w Way) Plus(v Way) Way { return Way{w.X.Plus(v.X), w.Y.Plus(v.Y)} }
 // Minus is the way from v to w.
 func (w Way) Minus(v Way) Way { return Way{w.X.Minus(v.X), w.Y.Minus(v.Y)} }
 
+// Negative goes w backwards.
+func (w Way) Negative() Way { return Way{w.X.Negative(), w.Y.Negative()} }
+
 // Times goes w k times.
 func (w Way) Times(k num.Q) Way { return Way{w.X.Times(k), w.Y.Times(k)} }
 
@@ -49,6 +52,9 @@ func (w Way) Conjugate() Way { return Way{w.X, w.Y.Negative()} }
 
 // Product of both as complex numbers: it turns as far as both together.
 func (w Way) Product(v Way) Way { return Way{w.Dot(v.Conjugate()), w.Conjugate().Cross(v)} }
+
+// Quotient of both as complex numbers: what times v is w; nowhere, if v is.
+func (w Way) Quotient(v Way) Way { return w.Product(v.Conjugate()).Over(v.Dot(v)) }
 
 // Nowhere tells if the way has no length.
 func (w Way) Nowhere() bool { return w.X.Sign() == 0 && w.Y.Sign() == 0 }

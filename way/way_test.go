@@ -18,6 +18,8 @@ func TestWays(t *testing.T) {
 	}{
 		{"plus", a.Plus(b), api.P{X: "9/2", Y: "-8/3"}},
 		{"minus", a.Minus(b), api.P{X: "-7/2", Y: "-10/3"}},
+		{"negative", a.Negative(), api.P{X: "-1/2", Y: "3"}},
+		{"negative of nowhere", Way{}.Negative(), api.P{X: "0", Y: "0"}},
 		{"times", a.Times(num.Read("-2/3")), api.P{X: "-1/3", Y: "2"}},
 		{"over", a.Over(num.Read("-3/2")), api.P{X: "-1/3", Y: "2"}},
 		{"over 0", a.Over(num.Q{}), api.P{X: "0", Y: "0"}},
@@ -30,6 +32,11 @@ func TestWays(t *testing.T) {
 		{"product with the way up", a.Product(wayOf("0", "1")), api.P{X: "3", Y: "1/2"}},
 		{"product with nowhere", a.Product(Way{}), api.P{X: "0", Y: "0"}},
 		{"product with its conjugate", a.Product(a.Conjugate()), api.P{X: "37/4", Y: "0"}},
+		{"quotient", a.Quotient(b), api.P{X: "9/145", Y: "-219/290"}},
+		{"quotient of the product", a.Product(b).Quotient(a), api.P{X: "4", Y: "1/3"}},
+		{"quotient by the way up", a.Quotient(wayOf("0", "1")), api.P{X: "-3", Y: "-1/2"}},
+		{"quotient by a level way", a.Quotient(wayOf("-2", "0")), api.P{X: "-1/4", Y: "3/2"}},
+		{"quotient by nowhere", a.Quotient(Way{}), api.P{X: "0", Y: "0"}},
 		{"sum", Sum(a, b, a), api.P{X: "5", Y: "-17/3"}},
 		{"sum of none", Sum(), api.P{X: "0", Y: "0"}},
 	} {
