@@ -1,0 +1,26 @@
+// Package triple has three fractions as one: what points and lines of the plane are, if only the ratios of their numbers count.
+package triple
+
+import "compass/num"
+
+// Triple of fractions. A point x, y is x, y, 1; a way out of the plane x, y, 0; the line A x + B y + C = 0 is A, B, C.
+type Triple [3]num.Q
+
+// Dot is the sum of the products: 0 of a point and a line just if the point is on the line.
+func (t Triple) Dot(u Triple) num.Q {
+	var sum num.Q
+	for i := range t {
+		sum = sum.Plus(t[i].Times(u[i]))
+	}
+	return sum
+}
+
+// Cross has the Dot of 0 with both: of two points it is the line through them, of two lines the point that they share; all 0, if both are one.
+func (t Triple) Cross(u Triple) Triple {
+	var made Triple
+	for i := range made {
+		j, k := (i+1)%3, (i+2)%3
+		made[i] = t[j].Times(u[k]).Minus(t[k].Times(u[j]))
+	}
+	return made
+}
