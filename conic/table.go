@@ -9,7 +9,7 @@ import (
 )
 
 // table of a conic, twice, so that none of its numbers need be halved. Its rows are lines: at a point, the first two make of it how fast the conic grows to the right, and up.
-type table [3]triple.Triple
+type table triple.Table
 
 func (s shape) table() table {
 	two := num.Int(2)
@@ -27,9 +27,7 @@ func at(w way.Way) triple.Triple { return triple.Triple{w.X, w.Y, num.Int(1)} }
 func toward(w way.Way) triple.Triple { return triple.Triple{w.X, w.Y} }
 
 // times is what the rows make of u.
-func (t table) times(u triple.Triple) triple.Triple {
-	return triple.Triple{t[0].Dot(u), t[1].Dot(u), t[2].Dot(u)}
-}
+func (t table) times(u triple.Triple) triple.Triple { return triple.Table(t).Times(u) }
 
 // pair is twice what the conic makes of the pair u, v: of a point and itself, twice what it makes of that.
 func (t table) pair(u, v triple.Triple) num.Q { return u.Dot(t.times(v)) }

@@ -24,3 +24,29 @@ func (t Triple) Cross(u Triple) Triple {
 	}
 	return made
 }
+
+// Plus has the sums of both, number by number.
+func (t Triple) Plus(u Triple) Triple {
+	for i := range t {
+		t[i] = t[i].Plus(u[i])
+	}
+	return t
+}
+
+// Times has each number k times.
+func (t Triple) Times(k num.Q) Triple {
+	for i := range t {
+		t[i] = t[i].Times(k)
+	}
+	return t
+}
+
+// Nothing tells if all are 0: no point, and no line.
+func (t Triple) Nothing() bool {
+	for _, q := range t {
+		if q.Sign() != 0 {
+			return false
+		}
+	}
+	return true
+}
