@@ -50,6 +50,22 @@ func Int(n int) Q {
 	return ready(false, natOf(uint64(n)), one())
 }
 
+// Whole is a as a machine number; false, if a isn't whole, or too great for one.
+func (a Q) Whole() (int, bool) {
+	if len(a.up) > 2 {
+		return 0, false
+	}
+	n := int(short(a.up))
+	if a.neg {
+		n = -n
+	}
+	// What is too great has wrapped round, and of a fraction the lower number was left out.
+	if Int(n).Minus(a).Sign() != 0 {
+		return 0, false
+	}
+	return n, true
+}
+
 // Sign is -1, 0 or 1.
 func (a Q) Sign() int {
 	switch {

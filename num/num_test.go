@@ -1,6 +1,7 @@
 package num
 
 import (
+	"math"
 	"math/big"
 	"math/rand"
 	"strings"
@@ -123,6 +124,30 @@ func TestFractionsAgainstLibrary(t *testing.T) {
 	}
 	for range 20 {
 		checkPair(t, fraction(r, 2000), fraction(r, 2000))
+	}
+}
+
+func TestWhole(t *testing.T) {
+	for _, c := range []struct {
+		in   api.Q
+		want int
+		ok   bool
+	}{
+		{"0", 0, true}, {"-0", 0, true}, {"x", 0, true}, {"7", 7, true}, {"-7", -7, true}, {"08/4", 2, true}, {"-200", -200, true},
+		{"4294967295", 1<<32 - 1, true}, {"4294967296", 1 << 32, true}, {"-4294967297", -1<<32 - 1, true},
+		{"9223372036854775807", math.MaxInt, true}, {"-9223372036854775807", -math.MaxInt, true}, {"-9223372036854775808", math.MinInt, true},
+		{"9223372036854775808", 0, false}, {"-9223372036854775809", 0, false}, {"18446744073709551615", 0, false}, {"-18446744073709551615", 0, false},
+		{"18446744073709551616", 0, false}, {"18446744073709551617", 0, false}, {"-340282366920938463463374607431768211457", 0, false},
+		{"1/2", 0, false}, {"-7/3", 0, false}, {"1/18446744073709551616", 0, false}, {"18446744073709551617/18446744073709551616", 0, false},
+	} {
+		if got, ok := Read(c.in).Whole(); got != c.want || ok != c.ok {
+			t.Errorf("whole %s: %d %v, want %d %v", c.in, got, ok, c.want, c.ok)
+		}
+	}
+	for _, n := range []int{0, 1, -1, 200, 1 << 40, math.MaxInt, math.MinInt} {
+		if got, ok := Int(n).Whole(); got != n || !ok {
+			t.Errorf("there and back: %d %v, want %d", got, ok, n)
+		}
 	}
 }
 
