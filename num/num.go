@@ -1,6 +1,8 @@
 // Package num has fractions of any length, in lowest terms: what api.Q tells as a text.
 package num
 
+import "cmp"
+
 // Q is a fraction. Its zero value is 0.
 type Q struct {
 	neg bool // never of 0
@@ -76,6 +78,14 @@ func (a Q) Sign() int {
 	default:
 		return 1
 	}
+}
+
+// Compare is -1 if a is less than b, 0 if both are one, 1 if a is greater: fractions are sorted by it.
+func (a Q) Compare(b Q) int {
+	if order := cmp.Compare(a.Sign(), b.Sign()); order != 0 {
+		return order
+	}
+	return a.Sign() * cmp.Compare(compare(multiply(a.up, b.lower()), multiply(b.up, a.lower())), 0)
 }
 
 // Negative is - a.

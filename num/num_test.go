@@ -1,6 +1,7 @@
 package num
 
 import (
+	"cmp"
 	"math"
 	"math/big"
 	"math/rand"
@@ -110,6 +111,12 @@ func checkPair(t *testing.T, s, u api.Q) {
 	} else {
 		sameQ(t, "over", a.Over(b), new(big.Rat).Quo(x, y))
 	}
+	if got, want := a.Compare(b), x.Cmp(y); got != want {
+		t.Fatalf("compare %s, %s: %d, want %d", s, u, got, want)
+	}
+	if got := a.Compare(a.Plus(Q{})); got != 0 {
+		t.Fatalf("compare %s with itself: %d", s, got)
+	}
 	sameQ(t, "sum", Sum(a, b, a), new(big.Rat).Add(x, new(big.Rat).Add(x, y)))
 	sameQ(t, "nothing left", a.Minus(a), new(big.Rat))
 	sameQ(t, "a is left as it was", a, x)
@@ -124,6 +131,20 @@ func TestFractionsAgainstLibrary(t *testing.T) {
 	}
 	for range 20 {
 		checkPair(t, fraction(r, 2000), fraction(r, 2000))
+	}
+}
+
+func TestCompareSorts(t *testing.T) {
+	sorted := []api.Q{"-18446744073709551617", "-4294967296", "-7/2", "-3", "-1/3", "-1/1000000000000000000000", "0", "1/1000000000000000000000", "1/3", "333333333333333333334/1000000000000000000000", "1/2", "3", "7/2", "4294967296", "18446744073709551617"}
+	for i, s := range sorted {
+		for j, u := range sorted {
+			if got, want := Read(s).Compare(Read(u)), cmp.Compare(i, j); got != want {
+				t.Errorf("compare %s, %s: %d, want %d", s, u, got, want)
+			}
+		}
+	}
+	if got := Read("x").Compare(Read("-0/5")); got != 0 {
+		t.Errorf("compare 0 with 0: %d", got)
 	}
 }
 

@@ -4,20 +4,17 @@ import (
 	"slices"
 
 	"compass/api"
-	"compass/num"
 	"compass/triple"
 )
 
 // turns has of each three corners of a ring the sign by which they turn: they are asked for again and again.
 type turns [api.MaxCorners][api.MaxCorners][api.MaxCorners]int
 
-// turnsOf reckons with whole numbers: for a sign, no fraction need be brought to lowest terms.
+// turnsOf reckons with whole numbers, as only signs are asked for.
 func turnsOf(r ring) *turns {
 	var points [api.MaxCorners]triple.Triple
 	for i, p := range r {
-		// The 1 ahead stays above 0: so none of the corners changes its sign.
-		plain := num.Plain(num.Int(1), p.X, p.Y)
-		points[i] = triple.Triple{plain[1], plain[2], plain[0]}
+		points[i] = triple.Whole(p)
 	}
 	t := &turns{}
 	for k := range r {

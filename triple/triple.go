@@ -1,10 +1,19 @@
 // Package triple has three fractions as one: what points and lines of the plane are, if only the ratios of their numbers count.
 package triple
 
-import "compass/num"
+import (
+	"compass/num"
+	"compass/way"
+)
 
 // Triple of fractions. A point x, y is x, y, 1; a way out of the plane x, y, 0; the line A x + B y + C = 0 is A, B, C.
 type Triple [3]num.Q
+
+// Whole is a point as whole numbers, the last of them above 0: so the sign of what is reckoned of it stays, and no fraction need be brought to lowest terms.
+func Whole(p way.Way) Triple {
+	plain := num.Plain(num.Int(1), p.X, p.Y)
+	return Triple{plain[1], plain[2], plain[0]}
+}
 
 // Dot is the sum of the products: 0 of a point and a line just if the point is on the line.
 func (t Triple) Dot(u Triple) num.Q {

@@ -56,6 +56,14 @@ func (w Way) Product(v Way) Way { return Way{w.Dot(v.Conjugate()), w.Conjugate()
 // Quotient of both as complex numbers: what times v is w; nowhere, if v is.
 func (w Way) Quotient(v Way) Way { return w.Product(v.Conjugate()).Over(v.Dot(v)) }
 
+// Compare is -1 if w comes ahead of v, 0 if both are one, 1 if it comes behind: the one with the lesser X is first, of two with one X the one with the lesser Y. So points of one line are in their order along it.
+func (w Way) Compare(v Way) int {
+	if order := w.X.Compare(v.X); order != 0 {
+		return order
+	}
+	return w.Y.Compare(v.Y)
+}
+
 // Nowhere tells if the way has no length.
 func (w Way) Nowhere() bool { return w.X.Sign() == 0 && w.Y.Sign() == 0 }
 

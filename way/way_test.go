@@ -1,6 +1,7 @@
 package way
 
 import (
+	"cmp"
 	"testing"
 
 	"compass/api"
@@ -78,6 +79,20 @@ func TestNowhere(t *testing.T) {
 		if c.w.Nowhere() != c.want {
 			t.Errorf("nowhere: %v", c.w.Text())
 		}
+	}
+}
+
+func TestCompare(t *testing.T) {
+	sorted := []Way{wayOf("-2", "9"), wayOf("-1/2", "-5"), wayOf("-1/2", "1/3"), wayOf("0", "0"), wayOf("0", "1/2"), wayOf("1/3", "-7"), wayOf("1/2", "-7")}
+	for i, w := range sorted {
+		for j, v := range sorted {
+			if got, want := w.Compare(v), cmp.Compare(i, j); got != want {
+				t.Errorf("compare %v, %v: %d, want %d", w.Text(), v.Text(), got, want)
+			}
+		}
+	}
+	if got := wayOf("02/4", "x").Compare(wayOf("1/2", "0")); got != 0 {
+		t.Errorf("written otherwise: %d", got)
 	}
 }
 
