@@ -13,18 +13,6 @@ import (
 // spotOf is what the texts of a point tell.
 func spotOf(p api.P) rim.Spot { return rim.At(way.Read(p)) }
 
-// read is what the texts of points tell; ErrMany, if these are too few or too many.
-func read(l []api.P) ([]rim.Spot, api.Errno) {
-	if len(l) < 1 || len(l) > api.MaxPoints {
-		return nil, api.ErrMany
-	}
-	spots := make([]rim.Spot, len(l))
-	for i, p := range l {
-		spots[i] = spotOf(p)
-	}
-	return spots, api.OK
-}
-
 // each is what is measured of each spot.
 func each(l []rim.Spot, measure func(way.Way) num.Q) []num.Q {
 	made := make([]num.Q, len(l))
@@ -58,7 +46,7 @@ func narrowest(r rim.Rim) num.Q {
 	}
 	var squares []num.Q
 	for _, edge := range r.Edges() {
-		across := edge[1].Minus(edge[0].Way).Left()
+		across := edge.Way().Left()
 		// No corner lies to the right of the edge: so none of these is below 0.
 		far := greatest(each(r, ruler.Square(edge[0].Way, across).Value))
 		squares = append(squares, far.Times(far).Over(across.Dot(across)))

@@ -27,10 +27,10 @@ func parting(a, b rim.Rim) (ruler.Line, bool) {
 func acrosses(a, b rim.Rim) []way.Way {
 	ways := []way.Way{a[0].Minus(b[0].Way)}
 	for _, edge := range a.Edges() {
-		ways = append(ways, edge[1].Minus(edge[0].Way).Left())
+		ways = append(ways, edge.Way().Left())
 	}
 	for _, edge := range b.Edges() {
-		ways = append(ways, edge[0].Minus(edge[1].Way).Left())
+		ways = append(ways, edge.Way().Negative().Left())
 	}
 	return ways
 }

@@ -4,6 +4,7 @@ package rim
 import (
 	"slices"
 
+	"compass/api"
 	"compass/triple"
 	"compass/way"
 )
@@ -17,11 +18,26 @@ type Spot struct {
 // At is a point as a spot.
 func At(p way.Way) Spot { return Spot{p, triple.Whole(p)} }
 
+// Read is what the texts of points tell; ErrMany, if these are too few or too many.
+func Read(l []api.P) ([]Spot, api.Errno) {
+	if len(l) < 1 || len(l) > api.MaxPoints {
+		return nil, api.ErrMany
+	}
+	spots := make([]Spot, len(l))
+	for i, p := range l {
+		spots[i] = At(way.Read(p))
+	}
+	return spots, api.OK
+}
+
 // Compare is the order of points: spots are sorted by it.
 func (s Spot) Compare(t Spot) int { return s.Way.Compare(t.Way) }
 
 // Edge runs from one spot to another.
 type Edge [2]Spot
+
+// Way is the way along the edge.
+func (e Edge) Way() way.Way { return e[1].Minus(e[0].Way) }
 
 // line is above 0 to the left of the edge; it is nothing, if the edge ends where it begins.
 func (e Edge) line() triple.Triple { return e[0].whole.Cross(e[1].whole) }

@@ -28,6 +28,31 @@ func texts(l []Spot) []api.P {
 	return made
 }
 
+func TestRead(t *testing.T) {
+	for _, l := range [][]api.P{nil, {}, make([]api.P, api.MaxPoints+1), make([]api.P, 5000)} {
+		if got, e := Read(l); got != nil || e != api.ErrMany {
+			t.Errorf("%d points: %v, error %d", len(l), texts(got), e)
+		}
+	}
+	for _, l := range [][]api.P{make([]api.P, 1), make([]api.P, api.MaxPoints)} {
+		if got, e := Read(l); len(got) != len(l) || e != api.OK {
+			t.Errorf("%d points: %v, error %d", len(l), texts(got), e)
+		}
+	}
+	got, e := Read([]api.P{{X: "06/4", Y: "x"}, {X: "-1", Y: "1/0"}, {X: "06/4", Y: "x"}})
+	want := []Spot{at("3/2", "0"), at("-1", "0"), at("3/2", "0")}
+	if !slices.Equal(texts(got), texts(want)) || e != api.OK {
+		t.Errorf("%v, error %d, want %v", texts(got), e, texts(want))
+	}
+}
+
+func TestWay(t *testing.T) {
+	e := Edge{at("1/2", "1"), at("3", "-1/3")}
+	if got, want := e.Way().Text(), (api.P{X: "5/2", Y: "-4/3"}); got != want {
+		t.Errorf("%v, want %v", got, want)
+	}
+}
+
 func TestTurn(t *testing.T) {
 	e := Edge{at("1/2", "1"), at("3", "1")}
 	for _, x := range []struct {
