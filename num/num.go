@@ -130,6 +130,24 @@ func (a Q) Over(b Q) Q {
 	return a.Times(ready(b.neg, b.lower(), b.up))
 }
 
+// Floor is a / b, down to a whole number: 0, if b is. What both have in common needn't be taken out for it.
+func (a Q) Floor(b Q) Q {
+	if len(b.up) == 0 {
+		return Q{}
+	}
+	neg := a.neg != b.neg
+	quotient, left := divide(multiply(a.up, b.lower()), multiply(b.up, a.lower()))
+	if neg && len(left) != 0 {
+		quotient = add(quotient, one())
+	}
+	return ready(neg, quotient, one())
+}
+
+// Parts are the upper number, which has the sign, and the lower one, which is above 0.
+func (a Q) Parts() (up, low Q) {
+	return ready(a.neg, a.up, one()), ready(false, a.lower(), one())
+}
+
 // Sum of any number of fractions.
 func Sum(l ...Q) Q {
 	var sum Q

@@ -108,9 +108,16 @@ func checkPair(t *testing.T, s, u api.Q) {
 	sameQ(t, "times", a.Times(b), new(big.Rat).Mul(x, y))
 	if y.Sign() == 0 {
 		sameQ(t, "over 0", a.Over(b), new(big.Rat))
+		sameQ(t, "over 0, down", a.Floor(b), new(big.Rat))
 	} else {
-		sameQ(t, "over", a.Over(b), new(big.Rat).Quo(x, y))
+		quotient := new(big.Rat).Quo(x, y)
+		sameQ(t, "over", a.Over(b), quotient)
+		// The library's Div goes down, as what is below the bar is above 0.
+		sameQ(t, "over, down", a.Floor(b), new(big.Rat).SetInt(new(big.Int).Div(quotient.Num(), quotient.Denom())))
 	}
+	up, low := a.Parts()
+	sameQ(t, "upper", up, new(big.Rat).SetInt(x.Num()))
+	sameQ(t, "lower", low, new(big.Rat).SetInt(x.Denom()))
 	if got, want := a.Compare(b), x.Cmp(y); got != want {
 		t.Fatalf("compare %s, %s: %d, want %d", s, u, got, want)
 	}
@@ -168,6 +175,32 @@ func TestWhole(t *testing.T) {
 	for _, n := range []int{0, 1, -1, 200, 1 << 40, math.MaxInt, math.MinInt} {
 		if got, ok := Int(n).Whole(); got != n || !ok {
 			t.Errorf("there and back: %d %v, want %d", got, ok, n)
+		}
+	}
+}
+
+func TestFloor(t *testing.T) {
+	for _, c := range []struct{ a, b, want api.Q }{
+		{"7", "2", "3"}, {"-7", "2", "-4"}, {"7", "-2", "-4"}, {"-7", "-2", "3"},
+		{"6", "2", "3"}, {"-6", "2", "-3"}, {"6", "-2", "-3"}, {"-6", "-2", "3"},
+		{"1", "2", "0"}, {"-1", "2", "-1"}, {"1", "-2", "-1"}, {"-1", "-2", "0"},
+		{"0", "5", "0"}, {"0", "-5", "0"}, {"5", "0", "0"}, {"-5", "0", "0"}, {"0", "0", "0"},
+		{"7/2", "1", "3"}, {"-7/2", "1", "-4"}, {"3/4", "1/4", "3"}, {"-3/4", "1/4", "-3"}, {"1", "2/3", "1"},
+		{"18446744073709551616", "-3", "-6148914691236517206"}, {"-18446744073709551616", "18446744073709551617", "-1"},
+	} {
+		if got := Read(c.a).Floor(Read(c.b)).Text(); got != c.want {
+			t.Errorf("%s over %s, down: %s, want %s", c.a, c.b, got, c.want)
+		}
+	}
+}
+
+func TestParts(t *testing.T) {
+	for _, c := range []struct{ in, up, low api.Q }{
+		{"0", "0", "1"}, {"x", "0", "1"}, {"7", "7", "1"}, {"-7", "-7", "1"}, {"6/4", "3", "2"}, {"-6/4", "-3", "2"}, {"-1/18446744073709551616", "-1", "18446744073709551616"},
+	} {
+		up, low := Read(c.in).Parts()
+		if up.Text() != c.up || low.Text() != c.low {
+			t.Errorf("parts of %s: %s, %s, want %s, %s", c.in, up.Text(), low.Text(), c.up, c.low)
 		}
 	}
 }
