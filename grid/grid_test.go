@@ -209,6 +209,9 @@ func TestNearLength(t *testing.T) {
 	sameList(t, "noughts ahead", nearOf(t, noughts(59)+"7"), []api.Q{"7"})
 	sameList(t, "below 0", nearOf(t, "-"+noughts(56)+"7/5"), []api.Q{"-2", "-1", "-3/2", "-7/5"})
 	sameList(t, "no fraction", nearOf(t, api.Q(strings.Repeat("x", 60))), []api.Q{"0"})
+	// Bytes count, and not what they stand for: each of these is two.
+	sameList(t, "as many bytes as may be", nearOf(t, api.Q(strings.Repeat("é", 30))), []api.Q{"0"})
+	refused[api.Q](t, "few signs, but too many bytes", api.ErrMany)(Near(api.Q(strings.Repeat("é", 31))))
 	great := "1" + noughts(59)
 	sameList(t, "great", nearOf(t, great), []api.Q{great})
 	little := "1/1" + noughts(57)
