@@ -1,4 +1,4 @@
-// Package triple has three fractions as one: what points and lines of the plane are, if only the ratios of their numbers count.
+// Package triple has three fractions as one: what points and ways of space are and, if only the ratios of their numbers count, points and lines of the plane.
 package triple
 
 import (
@@ -6,7 +6,7 @@ import (
 	"compass/way"
 )
 
-// Triple of fractions. A point x, y is x, y, 1; a way out of the plane x, y, 0; the line A x + B y + C = 0 is A, B, C.
+// Triple of fractions. A point of space, or a way in it, is x, y, z. Of the plane, a point x, y is x, y, 1; a way out of it x, y, 0; the line A x + B y + C = 0 is A, B, C.
 type Triple [3]num.Q
 
 // Whole is a point as whole numbers, the last of them above 0: so the sign of what is reckoned of it stays, and no fraction need be brought to lowest terms.
